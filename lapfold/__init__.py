@@ -1,0 +1,1 @@
+"""Lapfold: laps that fall, written into folds, their turns told exactly."""
