@@ -125,15 +125,26 @@ def _joined(one, other):
 
 
 def _number_raised(number, power):
-    """The whole number number raised to the power."""
+    """The whole number number raised to the power.
+
+    By squaring: where a number is 0 or 1, its power may be far above what a loop could count.
+    """
     risen = 1
-    for _ in range(power):
-        risen = risen * number
+    square = number
+    left = power
+    while left > 0:
+        if left % 2 == 1:
+            risen = risen * square
+        left = left // 2
+        if left > 0:
+            square = square * square
     return risen
 
 
 def _powers_of(base, wanted):
     """A dict from each power in the rising list wanted to the sum base raised to it."""
+    if len(base.parts) < 2:
+        return {power: _part_raised(base, power) for power in wanted}
     found = {}
     risen = sum_of_number(1)
     reached = 0
@@ -143,6 +154,15 @@ def _powers_of(base, wanted):
         reached = power
         found[power] = risen
     return found
+
+
+def _part_raised(base, power):
+    """The sum base, which has one part at most, raised to the power, which is 1 or more."""
+    raised = {}
+    for product, (top, bottom) in base.parts.items():
+        risen = tuple([(name, many * power) for name, many in product])
+        raised[risen] = (_number_raised(top, power), _number_raised(bottom, power))
+    return Sum(raised)
 
 
 def _risen_fillings(given, filling):

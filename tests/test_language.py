@@ -16,13 +16,21 @@ INTERFACE = {
         "Sum": None, "sum_of_number": 1, "sum_of_name": 1, "added": 2, "lessened": 2, "timed": 2,
         "put_in": 2, "totalled": 3, "worth": 2, "is_natural": 1, "same": 2, "names_in": 1,
     },
+    "lapfold.forms": {"need_program": 1, "names_of": 1, "sum_told": 1},
+    "lapfold.plain": {"ran": 3},
+    "lapfold.changes": {"done_by": 1},
+}
+ARGUMENTS = {
+    "lapfold.forms": {"need_program": ["program"], "names_of": ["program"], "sum_told": ["expression"]},
+    "lapfold.plain": {"ran": ["program", "names", "most"]},
+    "lapfold.changes": {"done_by": ["row"]},
 }
 
 LIBRARY = {"math": {"gcd", "lcm", "isqrt", "comb", "perm", "factorial"}}
 BUILTINS = set(
     "len range enumerate zip min max sum abs sorted reversed int str bool list tuple dict set frozenset "
     "isinstance ord repr any all divmod Exception ValueError TypeError KeyError IndexError LookupError "
-    "ZeroDivisionError ArithmeticError OverflowError RuntimeError".split()
+    "ZeroDivisionError ArithmeticError OverflowError RuntimeError type".split()
 )
 BARRED = (
     ast.Div, ast.AsyncFunctionDef, ast.AsyncFor, ast.AsyncWith, ast.Await, ast.Global, ast.AnnAssign, ast.Pow,
@@ -116,6 +124,26 @@ class Code(unittest.TestCase):
                 if isinstance(node, ast.Name) and hasattr(builtins, node.id):
                     self.assertIn(node.id, BUILTINS, (path, node.lineno))
 
+    def test_kinds_are_only_compared(self):
+        for path, tree in trees():
+            compared = 0
+            asked = 0
+            for node in ast.walk(tree):
+                if isinstance(node, ast.Compare) and isinstance(node.left, ast.Call):
+                    called = node.left.func
+                    if isinstance(called, ast.Name) and called.id == "type":
+                        self.assertIsInstance(node.ops[0], (ast.Eq, ast.NotEq), (path, node.lineno))
+                        compared += 1
+                asked += isinstance(node, ast.Name) and node.id == "type"
+            self.assertEqual(asked, compared, path)
+
+    def test_is_stands_beside_none_true_and_false(self):
+        for path, tree in trees():
+            for node in ast.walk(tree):
+                if isinstance(node, ast.Compare) and isinstance(node.ops[0], (ast.Is, ast.IsNot)):
+                    self.assertIsInstance(node.comparators[0], ast.Constant, (path, node.lineno))
+                    self.assertIn(node.comparators[0].value, (None, True, False), (path, node.lineno))
+
     def test_imports_and_classes_keep_their_names(self):
         for path, tree in trees():
             names = list(bound_names(tree))
@@ -137,6 +165,12 @@ class Interface(unittest.TestCase):
                 self.assertEqual(inspect.isclass(held), many is None, name)
                 if many is not None:
                     self.assertEqual(len(inspect.signature(held).parameters), many, name)
+
+    def test_arguments_have_their_names(self):
+        for module_name, members in ARGUMENTS.items():
+            module = importlib.import_module(module_name)
+            for name, arguments in members.items():
+                self.assertEqual(list(inspect.signature(getattr(module, name)).parameters), arguments, name)
 
     def test_a_sum_is_made_of_parts(self):
         module = importlib.import_module("lapfold.sums")
