@@ -1,25 +1,16 @@
 """lapfold.changes: what a row does, told as sums of what the names are ahead of it."""
 
 import unittest
-from itertools import product
 
 from lapfold.changes import done_by
 from lapfold.errors import Dry
 from lapfold.forms import names_of, sum_told
 from lapfold.plain import ran
-from lapfold.sums import Sum, same, worth
-from program_helps import Chances, add, grow, lap, put, row, say, some_row, times
+from lapfold.sums import Sum, names_in, put_in, same, sum_of_name, worth
+from program_helps import Chances, add, even_row, grow, lap, points, put, row, say, some_row, times
 from sum_helps import faults_of
 
 NAMES = ("a", "b", "c", "d")
-
-
-def points(names, numbers):
-    """Ways to give the names these numbers: all where they are few, else some hundreds."""
-    if len(numbers) ** len(names) <= 400:
-        return [dict(zip(names, way)) for way in product(numbers, repeat=len(names))]
-    chances = Chances(len(names))
-    return [{x: chances.one_of(numbers) for x in names} for _ in range(300)]
 
 
 class DoneTest(unittest.TestCase):
@@ -310,6 +301,105 @@ class UnevenLaps(DoneTest):
 
     def test_the_guard_may_be_used_behind_it(self):
         self.told(row(lap("n", put("n", 0)), put("y", add("n", 3)), grow("n", "y")), "n", {(): (3, 1)})
+
+
+class WhatHangsOnBlurredNames(DoneTest):
+    """A name hangs on a blurred one where that is left in its sum when all has been put in."""
+
+    BLURS = lap("b", put("w", 1))
+
+    def left_out(self, *statements):
+        """The names that are not told behind the statements, w being blurred ahead of them."""
+        program = row(self.BLURS, *statements)
+        return [x for x in names_of(program) if x not in done_by(program)]
+
+    def as_alone(self, *statements):
+        """Behind the lap that blurs w all is told that is told of the statements alone, but for what has w in it."""
+        alone = done_by(row(*statements))
+        out = [x for x in names_of(row(*statements)) if x not in alone or "w" in names_in(alone[x])]
+        told = self.check(row(self.BLURS, *statements), out=["w"] + out, numbers=(0, 1, 2))
+        for x in told:
+            if x != "b":
+                self.assertTrue(same(told[x], alone[x]), (statements, x))
+        return told
+
+    def test_a_lap_without_turns(self):
+        told = self.as_alone(put("g", 0), lap("g", grow("h", "w"), grow("k", times("w", "w"))))
+        self.assertEqual(told["h"].parts, {(("h", 1),): (1, 1)})
+        self.as_alone(put("g", 0), lap("g", put("i", add("g", 1)), lap("i", grow("h", "w"))))
+        self.as_alone(put("g", times(0, "a")), lap("g", grow("h", "w")))
+        self.assertEqual(self.left_out(put("g", 1), lap("g", grow("h", "w"))), ["h", "w"])
+        self.assertEqual(self.left_out(put("g", "a"), lap("g", grow("h", "w"))), ["h", "w"])
+
+    def test_a_lap_without_turns_as_the_guard_was_nought(self):
+        self.as_alone(put("k", 0), put("g", times("k", "w")), lap("g", grow("h", "w")))
+
+    def test_one_turn_in_which_an_inner_lap_has_none(self):
+        inner = lap("i", grow("h", "w"))
+        told = self.as_alone(put("g", 1), lap("g", put("i", "g"), inner))
+        self.assertEqual(told["h"].parts, {(("h", 1),): (1, 1)})
+        self.as_alone(put("g", 1), lap("g", put("i", times(3, "g")), inner))
+        self.as_alone(put("g", 1), lap("g", put("i", times("g", "a")), inner))
+        self.assertEqual(self.left_out(put("g", 2), lap("g", put("i", "g"), inner)), ["h", "w"])
+        self.assertEqual(self.left_out(put("g", 1), lap("g", put("i", add("g", 1)), inner)), ["h", "w"])
+        self.assertEqual(self.left_out(lap("g", put("i", "g"), inner)), ["h", "i", "w"])
+
+    def test_two_turns_in_which_no_other_one_lies(self):
+        """Of the turns taken three at once by the guard and by what is below it there are none in two turns."""
+        lowest = lap("j", grow("h", "w"))
+        laps = lap("g", put("i", "g"), lap("i", put("j", "i"), lowest))
+        told = self.as_alone(put("g", 2), laps)
+        self.assertEqual(told["h"].parts, {(("h", 1),): (1, 1)})
+        self.as_alone(put("g", 1), laps)
+        self.assertEqual(self.left_out(put("g", 3), laps), ["h", "j", "w"])
+
+    def test_a_name_that_is_known_to_be_nought(self):
+        told = self.as_alone(put("k", 0), put("z", times("k", "w")), put("y", add("a", times("w", times("w", "k")))))
+        self.assertEqual((told["z"].parts, told["y"].parts), ({}, {(("a", 1),): (1, 1)}))
+        self.as_alone(put("k", 0), lap("g", grow("h", times("k", "w")), grow("z", 1)))
+        self.as_alone(lap("k"), put("z", times("k", "w")))
+        self.assertEqual(self.left_out(put("k", 1), put("z", times("k", "w"))), ["w", "z"])
+
+    def test_as_often_as_a_blurred_name_tells(self):
+        told = self.as_alone(put("k", 0), put("g", "w"), lap("g", grow("h", "k"), grow("z", 1)))
+        self.assertEqual(told["h"].parts, {(("h", 1),): (1, 1)})
+        self.assertNotIn("z", told)
+
+    def test_what_is_set_anew_in_the_last_turn(self):
+        told = self.as_alone(put("g", add("a", 1)), lap("g", put("y", add("a", times("g", "w")))))
+        self.assertEqual(told["y"].parts, {(("a", 1),): (1, 1)})
+        set_anew = (put("y", times("k", "w")), put("z", times("g", times("w", 5))))
+        self.as_alone(put("g", 3), put("k", 0), lap("g", *set_anew))
+        self.assertEqual(self.left_out(put("g", 2), lap("g", put("y", times(add("g", 1), "w")))), ["w", "y"])
+
+    def test_it_is_no_longer_blurred_when_nothing_is_left_of_it(self):
+        statements = (put("k", 0), put("z", times("k", "w")), put("w", "z"), lap("g", grow("h", "w"), grow("y", "a")))
+        self.assertEqual(self.left_out(*statements), [])
+        self.assertEqual(self.check(row(self.BLURS, *statements))["h"].parts, {(("h", 1),): (1, 1)})
+
+    def test_what_is_not_told_in_the_turns(self):
+        """This is no matter of the names ahead of the lap: a growing name hangs on it in a lap without turns, too."""
+        for turns in (0, 1, 2):
+            laps = lap("g", grow("u", "u"), grow("h", times("g", "u")))
+            self.check(row(put("g", turns), laps), out=("h", "u"))
+
+    def test_two_rows_one_behind_another(self):
+        """What is told of both is what the second one tells, with the first one's sums put in."""
+        asked = 0
+        for seed in range(400):
+            chances = Chances(seed)
+            first = some_row(chances, "abcdef", 2, 4)
+            second = even_row(chances, "abcdef", "ghi", 4)
+            both = done_by(row(*first[1], *second[1]))
+            alone = done_by(second)
+            ahead = {x: sum_of_name(x) for x in names_of(second) if x not in names_of(first)}
+            ahead.update(done_by(first))
+            for x in alone:
+                if x in "abcdefg" and all(y in ahead for y in names_in(alone[x])):
+                    asked += 1
+                    self.assertIn(x, both, (first, second))
+                    self.assertTrue(same(both[x], put_in(alone[x], ahead)), (first, second, x))
+        self.assertGreater(asked, 1000)
 
 
 class LapsWithinLaps(DoneTest):
