@@ -19,11 +19,17 @@ INTERFACE = {
     "lapfold.forms": {"need_program": 1, "names_of": 1, "sum_told": 1},
     "lapfold.plain": {"ran": 3},
     "lapfold.changes": {"done_by": 1},
+    "lapfold.falls": {"looked": 1},
+    "lapfold.counting": {"count_of": 1, "ends_of": 1},
+    "lapfold.folds": {"written": 1, "value": 2},
 }
 ARGUMENTS = {
     "lapfold.forms": {"need_program": ["program"], "names_of": ["program"], "sum_told": ["expression"]},
     "lapfold.plain": {"ran": ["program", "names", "most"]},
     "lapfold.changes": {"done_by": ["row"]},
+    "lapfold.falls": {"looked": ["program"]},
+    "lapfold.counting": {"count_of": ["program"], "ends_of": ["program"]},
+    "lapfold.folds": {"written": ["program"], "value": ["fold", "slots"]},
 }
 
 LIBRARY = {"math": {"gcd", "lcm", "isqrt", "comb", "perm", "factorial"}}
